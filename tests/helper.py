@@ -1,8 +1,9 @@
-"""What the tests share: calls and answers in a readable form, and a slow model of the document.
+"""What the tests share: calls and answers in a readable form, a slow model of the document, and texts made by dice.
 
 The model goes another way than the program. Whether bytes are a text is asked of Python's json with the document's
 limits added; whether a beginning can still become a text is tried out with every ending that could be needed; and
-what is told is read off the whole text, value by value, with the place of the byte that tells it.
+what is told is read off the whole text, value by value, with the place of the byte that tells it. A line's model keeps
+all bytes and the questions of each, and reads everything anew at every call.
 """
 
 import json
@@ -40,12 +41,36 @@ def feed(piece):
     return [5] + row(piece)
 
 
+def end():
+    return [6]
+
+
+def place():
+    return [7]
+
+
+def depth():
+    return [8]
+
+
+def asked():
+    return [9]
+
+
+def blanks(size):
+    """Calls that feed so many blanks."""
+    return [feed(" " * min(16000, size - at)) for at in range(0, size, 16000)]
+
+
 def run(*calls):
     """The answers to the calls, one list each."""
     line = [number for call in calls for number in call]
     if not 1 <= len(calls) <= 60 or len(line) > 69000:
         raise AssertionError("a test's own line is too long")
+    handed_in = list(line)
     given = answers(line)
+    if line != handed_in:
+        raise AssertionError("what was handed in is not the same afterwards")
     result = []
     at = 0
     while at < len(given):
@@ -92,7 +117,7 @@ def word(which, code):
 
 
 def right(*told):
-    """The answer of a feed whose bytes were all taken."""
+    """The answer of a feed whose bytes were all taken, or of the end of a text."""
     return [0] + [n for thing in told for n in thing]
 
 
@@ -285,3 +310,136 @@ def modelled(given, asked_at):
     size, whole = longest_beginning(given)
     things = [thing for thing in Model(whole, asked_at).things if thing[0] < size]
     return size, things
+
+
+# The model, fourth part: the calls of a line.
+
+class LineModel:
+    """A line's calls: all bytes taken, the questions while each of them was taken, and whether the text is over."""
+
+    def __init__(self):
+        self.begin()
+
+    def begin(self):
+        self.taken = b""
+        self.held = {}
+        self.held_at = []
+        self.over = False
+        return [0]
+
+    def check(self, path):
+        steps = path_steps(path)
+        return [-1] if steps is None else [0, len(steps)]
+
+    def ask(self, shut, path):
+        if shut > 1 or path_steps(path) is None:
+            return [-1]
+        if len(self.held) == 16:
+            return [-2]
+        free = min(q for q in range(16) if q not in self.held)
+        self.held = {**self.held, free: (shut, path)}
+        return [0, free]
+
+    def drop(self, wanted):
+        if wanted not in self.held:
+            return [-1]
+        self.held = {q: self.held[q] for q in self.held if q != wanted}
+        return [0]
+
+    def feed(self, piece):
+        if len(self.taken) + len(piece) > 65536:
+            return [-3]
+        if self.over:
+            return [-2]
+        before = len(self.taken)
+        size = self.right_bytes(piece)
+        self.over = size < len(piece)
+        self.taken += piece[:size]
+        self.held_at += [self.held] * size
+        return [1 if self.over else 0] + self.told(completed(self.taken), before, len(self.taken))
+
+    def right_bytes(self, piece):
+        """How many bytes of the piece stand before a wrong one; behind a wrong beginning none is right again."""
+        right_size, wrong_size = 0, len(piece) + 1
+        tried = len(piece)
+        while wrong_size - right_size > 1:
+            if completed(self.taken + piece[:tried]) is None:
+                wrong_size = tried
+            else:
+                right_size = tried
+            tried = (right_size + wrong_size) // 2
+        return right_size
+
+    def told(self, whole, first, behind):
+        """What the bytes in these places tell, the whole text being this."""
+        things = Model(whole, lambda at: self.held_at[at] if at < len(self.held_at) else self.held).things
+        return [n for at, numbers in things if first <= at < behind for n in numbers]
+
+    def end(self):
+        if self.over:
+            return [-2]
+        self.over = True
+        if not is_text(self.taken):
+            return [1]
+        return [0] + self.told(self.taken, len(self.taken), len(self.taken) + 1)
+
+    def place(self):
+        return [0, len(self.taken)]
+
+    def depth(self):
+        return [0, len(closers(self.taken))]
+
+    def asked(self):
+        return [0] + sorted(self.held)
+
+    def answer(self, call):
+        """The answer to a call in the form in which a line has it."""
+        if call[0] == 1:
+            return self.check(bytes(call[2:]))
+        if call[0] == 3:
+            return self.ask(call[1], bytes(call[3:]))
+        if call[0] == 4:
+            return self.drop(call[1])
+        if call[0] == 5:
+            return self.feed(bytes(call[2:]))
+        return {2: self.begin, 6: self.end, 7: self.place, 8: self.depth, 9: self.asked}[call[0]]()
+
+
+# Texts made by dice.
+
+PATHS = ["", ".a", ".b", ".*", "[0]", "[1]", "[*]", "..a", "..b", "..*", "..[0]", "..[1]", "..[*]", ".a.b", ".a[0]",
+         "[0].a", "[1][0]", "..a.b", "..a..a", "..[*]..a", "..[0][0]", ".*.*", "[*][*]", "..*..*", "..a[*]", ".a..[1]",
+         "..[*]..[*]..[*]", "..a..b..*", "[*]..b", "..*.a"]
+NAMES = ["a", "a", "b", "b", "\\u0061", "", "ab", "\u00e4"]
+SCALARS = ["null", "false", "true", "0", "-1", "12", "1.5", "2e3", "-0.1E+2", '""', '"x"', '"\\n"', '"\\u00e4"',
+           '"\\ud83d\\ude00"', '"\u20ac"', '"\U0001f600"', '"a b"']
+SPOILS = [bytes([byte]) for byte in b' \n[]{},:"\\-+.0159eEnulfatrsxdDcu\x00\x1f\x7f\x80\xbf\xc3\xe0\xed\xf4\xff']
+
+
+def blank(dice):
+    return dice.choice(["", "", "", "", " ", "\n", "\t\r"])
+
+
+def some_value(dice, depth):
+    """A right value as str."""
+    kind = dice.randrange(6 if depth > 0 else 3)
+    if kind < 3:
+        return dice.choice(SCALARS)
+    inside = []
+    for count in range(dice.randrange(4)):
+        value = blank(dice) + some_value(dice, depth - 1) + blank(dice)
+        if kind == 5:
+            value = blank(dice) + '"' + dice.choice(NAMES) + '"' + blank(dice) + ":" + value
+        inside.append(value)
+    between = ",".join(inside) or blank(dice)
+    return "{" + between + "}" if kind == 5 else "[" + between + "]"
+
+
+def some_text(dice):
+    return raw(blank(dice) + some_value(dice, 4) + blank(dice))
+
+
+def spoiled(dice, text):
+    """The text with a byte changed, put in or left out."""
+    at = dice.randrange(len(text) + 1)
+    return text[:at] + dice.choice(SPOILS + [b""]) + text[at + dice.randrange(2):]

@@ -7,14 +7,28 @@ import unittest
 
 import textsift
 import textsift.sift
-from tests.helper import ask, begin, check, drop, feed
+from tests.helper import ask, asked, begin, check, depth, drop, end, feed, place
 from textsift.sift import answers
 
-LINE = (check(".a[*]") + check("a") + ask("..a") + ask("[*]", 1) + ask("", 2) + feed('[1,{"a":["x",null]},[') + drop(1)
-        + drop(7) + feed('true],12') + begin() + ask("") + feed('{"\u00e4":[]}') + feed("x") + feed(""))
+LINE = (check(".a[*]") + check("a") + ask("..a") + ask("[*]", 1) + ask("", 2) + feed('[1,{"a":["x",null]},[') + place()
+        + depth() + asked() + drop(1) + drop(7) + feed('true],12') + asked() + end() + end() + feed("") + begin() + ask("")
+        + feed('{"\u00e4":[]}') + feed("x") + feed("") + end() + begin() + ask("") + place() + feed("-7") + end()
+        + depth())
 
-ANSWERED = [2, 0, 2, 1, -1, 2, 0, 0, 2, 0, 1, 1, -1, 11, 0, 5, 2, 1, 49, 1, 2, 0, 1, 2, 1, 1, 0, 1, -1, 1, 0, 1, 0,
-            2, 0, 0, 15, 0, 1, 1, 0, 3, 2, 195, 164, 1, 0, 1, 2, 1, 2, 0, 1, 1, 1, -2]
+ANSWERED = [2, 0, 2, 1, -1, 2, 0, 0, 2, 0, 1, 1, -1, 11, 0, 5, 2, 1, 49, 1, 2, 0, 1, 2, 1, 2, 0, 21, 2, 0, 2, 3, 0, 0, 1,
+            1, 0, 1, -1, 1, 0, 2, 0, 0, 1, 1, 1, -2, 1, -2, 1, 0, 2, 0, 0, 15, 0, 1, 1, 0, 3, 2, 195, 164, 1, 0, 1, 2, 1,
+            2, 0, 1, 1, 1, -2, 1, -2, 1, 0, 2, 0, 0, 2, 0, 0, 1, 0, 6, 0, 5, 1, 2, 45, 55, 2, 0, 0]
+
+
+def refuse(self, *given):
+    raise AssertionError("what is handed in was changed")
+
+
+class OnlyRead(list):
+    """A list that tells of every change, also of one that is taken back."""
+
+    append = extend = insert = pop = remove = clear = sort = reverse = refuse
+    __setitem__ = __delitem__ = __iadd__ = __imul__ = refuse
 
 
 class InterfaceTest(unittest.TestCase):
@@ -28,10 +42,25 @@ class InterfaceTest(unittest.TestCase):
         self.assertEqual(answers([4, 0]), [1, -1])
         self.assertEqual(answers([5, 0]), [1, 0])
         self.assertEqual(answers([5, 1, 120]), [1, 1])
+        self.assertEqual(answers([6]), [1, 1])
+        self.assertEqual(answers([7]), [2, 0, 0])
+        self.assertEqual(answers([8]), [2, 0, 0])
+        self.assertEqual(answers([9]), [1, 0])
+
+    def test_end_of_a_text_without_and_with_a_number(self):
+        self.assertEqual(answers([3, 0, 0, 5, 2, 91, 93, 6]), [2, 0, 0, 6, 0, 1, 1, 1, 2, 1, 1, 0])
+        self.assertEqual(answers([3, 0, 0, 5, 2, 49, 50, 6]), [2, 0, 0, 1, 0, 6, 0, 5, 1, 2, 49, 50])
+
+    def test_sixty_calls(self):
+        self.assertEqual(answers([6] + [7] * 20 + [8] * 20 + [9] * 19), [1, 1] + [2, 0, 0] * 40 + [1, 0] * 19)
 
     def test_longest_rows(self):
         self.assertEqual(answers([1, 2000] + [46] * 2000 + [3, 16383, 2000] + [255] * 2000), [1, -1, 1, -1])
         self.assertEqual(answers([5, 16000] + [32] * 16000 + [4, 16383]), [1, 0, 1, -1])
+
+    def test_rows_behind_calls_without_any(self):
+        self.assertEqual(answers([6, 1, 0, 7, 5, 0, 8, 3, 0, 0, 9, 4, 0]),
+                         [1, 1, 2, 0, 0, 2, 0, 0, 1, -2, 2, 0, 0, 2, 0, 0, 2, 0, 0, 1, 0])
 
     def test_bytes_that_look_like_calls(self):
         self.assertEqual(answers([1, 3, 2, 2, 2, 2, 5, 2, 5, 5, 2]), [1, -1, 1, 0, 1, 1, 1, 0])
@@ -40,6 +69,9 @@ class InterfaceTest(unittest.TestCase):
         line = list(LINE)
         answers(line)
         self.assertEqual(line, LINE)
+
+    def test_what_is_handed_in_is_never_changed(self):
+        self.assertEqual(answers(OnlyRead(LINE)), ANSWERED)
 
     def test_a_second_time_gives_the_same(self):
         line = list(LINE)
@@ -56,6 +88,10 @@ class InterfaceTest(unittest.TestCase):
         self.assertEqual(answers(feed('"y"') + ask("")), [1, 0, 2, 0, 0])
         answers(feed("x"))
         self.assertEqual(answers(feed("1")), [1, 0])
+        answers(ask("") + feed("1") + end())
+        self.assertEqual(answers(feed("[1") + end()), [1, 0, 1, 1])
+        answers(ask("") + feed("[[") + end())
+        self.assertEqual(answers(place() + depth() + asked()), [2, 0, 0, 2, 0, 0, 1, 0])
 
     def test_whole_numbers_alone_in_a_list(self):
         given = answers(list(LINE))

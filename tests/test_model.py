@@ -1,46 +1,10 @@
-"""Many small texts against the model in the helper: T1 to T5 taken together."""
+"""Many small texts against the model in the helper, with their ends: T1 to T5 taken together."""
 
 import random
 import unittest
 
-from tests.helper import ask, drop, feed, is_text, longest_beginning, modelled, raw, run
-
-PATHS = ["", ".a", ".b", ".*", "[0]", "[1]", "[*]", "..a", "..b", "..*", "..[0]", "..[1]", "..[*]", ".a.b", ".a[0]",
-         "[0].a", "[1][0]", "..a.b", "..a..a", "..[*]..a", "..[0][0]", ".*.*", "[*][*]", "..*..*", "..a[*]", ".a..[1]",
-         "..[*]..[*]..[*]", "..a..b..*", "[*]..b", "..*.a"]
-NAMES = ["a", "a", "b", "b", "\\u0061", "", "ab", "\u00e4"]
-SCALARS = ["null", "false", "true", "0", "-1", "12", "1.5", "2e3", "-0.1E+2", '""', '"x"', '"\\n"', '"\\u00e4"',
-           '"\\ud83d\\ude00"', '"\u20ac"', '"\U0001f600"', '"a b"']
-SPOILS = [bytes([byte]) for byte in b' \n[]{},:"\\-+.0159eEnulfatrsxdDcu\x00\x1f\x7f\x80\xbf\xc3\xe0\xed\xf4\xff']
-
-
-def blank(dice):
-    return dice.choice(["", "", "", "", " ", "\n", "\t\r"])
-
-
-def some_value(dice, depth):
-    """A right value as str."""
-    kind = dice.randrange(6 if depth > 0 else 3)
-    if kind < 3:
-        return dice.choice(SCALARS)
-    inside = []
-    for count in range(dice.randrange(4)):
-        value = blank(dice) + some_value(dice, depth - 1) + blank(dice)
-        if kind == 5:
-            value = blank(dice) + '"' + dice.choice(NAMES) + '"' + blank(dice) + ":" + value
-        inside.append(value)
-    between = ",".join(inside) or blank(dice)
-    return "{" + between + "}" if kind == 5 else "[" + between + "]"
-
-
-def some_text(dice):
-    return raw(blank(dice) + some_value(dice, 4) + blank(dice))
-
-
-def spoiled(dice, text):
-    """The text with a byte changed, put in or left out."""
-    at = dice.randrange(len(text) + 1)
-    return text[:at] + dice.choice(SPOILS + [b""]) + text[at + dice.randrange(2):]
+from tests.helper import (PATHS, Model, ask, closers, depth, drop, end, feed, is_text, longest_beginning, modelled, place,
+                          raw, run, some_text, spoiled)
 
 
 def some_calls(dice, size):
@@ -61,32 +25,44 @@ def some_calls(dice, size):
     return calls
 
 
+def ended(text, size, asked_at):
+    """The answer to the end of the text, so many bytes of which are right."""
+    if size < len(text):
+        return [-2]
+    if not is_text(text):
+        return [1]
+    return [0] + [n for at, numbers in Model(text, asked_at).things if at == len(text) for n in numbers]
+
+
 class ModelTest(unittest.TestCase):
     def compare(self, dice, text):
-        """Feed the text with calls between, also cut elsewhere, and compare each piece with the model."""
+        """Feed the text with calls between, also cut elsewhere, end it, and compare each answer with the model."""
         calls = some_calls(dice, len(text))
 
-        def asked_at(place):
-            before = [held for at, call, held in calls if at <= place]
+        def asked_at(at):
+            before = [held for since, call, held in calls if since <= at]
             return before[-1] if before else {}
 
         size, things = modelled(text, asked_at)
         cuts = sorted({0, len(text)} | {at for at, call, held in calls} | {dice.randrange(len(text) + 1)})
         line = []
         expected = {}
-        for begin, end in zip(cuts, cuts[1:] + [None]):
-            line += [call for at, call, held in calls if at == begin]
-            if end is None:
+        for first, behind in zip(cuts, cuts[1:] + [None]):
+            line += [call for at, call, held in calls if at == first]
+            if behind is None:
                 break
-            told = [n for place, numbers in things if begin <= place < end for n in numbers]
-            if begin > size:
+            told = [n for at, numbers in things if first <= at < behind for n in numbers]
+            if first > size:
                 expected[len(line)] = [-2]
             else:
-                expected[len(line)] = [1 if size < end else 0] + told
-            line.append(feed(text[begin:end]))
-        given = run(*line)
+                expected[len(line)] = [1 if size < behind else 0] + told
+            line.append(feed(text[first:behind]))
+        expected[len(line)] = ended(text, size, asked_at)
+        expected[len(line) + 1] = [0, size]
+        expected[len(line) + 2] = [0, len(closers(text[:size]))]
+        given = run(*line, end(), place(), depth())
         for at, answer in expected.items():
-            self.assertEqual(given[at], answer, (text, [(place, call) for place, call, held in calls], cuts))
+            self.assertEqual(given[at], answer, (text, [(since, call) for since, call, held in calls], cuts))
 
     def test_right_texts(self):
         for seed in range(600):
@@ -108,7 +84,7 @@ class ModelTest(unittest.TestCase):
             text = b"".join(dice.choice(signs) for count in range(dice.randrange(1, 12)))
             self.compare(dice, text)
 
-    def test_first_wrong_byte_of_short_texts(self):
+    def test_first_wrong_byte_and_end_of_short_texts(self):
         """Every text of up to four of these signs."""
         signs = [b"[", b"]", b"{", b"}", b",", b":", b'"', b"0", b"-", b" ", b"\\", b"t"]
         texts = [b""]
@@ -117,7 +93,9 @@ class ModelTest(unittest.TestCase):
             texts = [text for text in texts if longest_beginning(text)[0] >= len(text) - 1]
             for text in texts:
                 taken = longest_beginning(text)[0]
-                self.assertEqual(run(feed(text))[0], [0 if taken == len(text) else 1], text)
+                found = [1, -2] if taken < len(text) else [0, 0 if is_text(text) else 1]
+                given = run(feed(text), end(), place(), depth())
+                self.assertEqual(given, [[found[0]], [found[1]], [0, taken], [0, len(closers(text[:taken]))]], text)
                 self.assertEqual(run(feed(text[:taken]))[0], [0], text)
 
 

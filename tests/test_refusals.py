@@ -1,13 +1,12 @@
-"""T6 and the order of refusals: what feed refuses, and that it changes nothing."""
+"""T6 and the order of refusals: what is refused, and that it changes nothing."""
 
 import unittest
 
-from tests.helper import ARRAY, ask, begin, closed, drop, feed, number, opened, right, run, string, wrong
+from tests.helper import (ARRAY, ask, asked, begin, blanks, check, closed, depth, drop, end, feed, number, opened, place,
+                          right, run, string, wrong)
 
-
-def blanks(size):
-    """Calls that feed so many blanks."""
-    return [feed(" " * min(16000, size - at)) for at in range(0, size, 16000)]
+LOOK = [place(), depth(), asked()]
+FULL = [ask("[0]"), ask("..a", 1)] + [ask("..[1]")] * 14
 
 
 class TooManyTest(unittest.TestCase):
@@ -85,6 +84,84 @@ class NothingChangesTest(unittest.TestCase):
         given = run(*asks, feed("[["), ask(""), feed("1],["), ask("..[*]", 1), feed('2],"x"]'))
         self.assertEqual(given[16:], [right(opened(1, ARRAY)), [-2], right(number(0, "1"), closed(ARRAY),
                                       opened(2, ARRAY)), [-2], right(string(65532, "x"))])
+
+
+class EveryRefusalTest(unittest.TestCase):
+    """Each refusal of each call, looked at from both sides."""
+
+    def unchanged(self, before, refused, answer, behind):
+        """The call is refused with that number, and all else is answered as if it hadn't been asked."""
+        plain = run(*before, *LOOK, *behind, *LOOK)
+        given = run(*before, *LOOK, refused, *LOOK, *behind, *LOOK)
+        at = len(before) + len(LOOK)
+        calls = [call[:40] for call in before + [refused]]
+        self.assertEqual(given[at], [answer], calls)
+        self.assertEqual(given[at + 1:at + 1 + len(LOOK)], given[len(before):at], calls)
+        self.assertEqual(given[:at] + given[at + 1 + len(LOOK):], plain, calls)
+
+    def texts(self):
+        """Calls that begin a text, and calls that go on with it, for each kind of place where a call may come."""
+        text = ' {"a" : ["x\\u0041\u20ac", -1.5e2, null, [[true]]], "b" : 12} '.encode("utf-8")
+        for at in range(len(text) + 1):
+            yield [feed(text[:at])], [feed(text[at:]), end()]
+        for size in (1, 2, 3):
+            yield [feed("120"[:size])], [feed("120"[size:]), end()]
+            yield [feed("120"[:size])], [end(), end()]
+        yield [feed("[[1")], [end(), feed("")]
+        yield [feed("[[1]x")], [end(), feed(""), begin(), feed("[1"), end()]
+        yield [feed("[[1"), end()], [end(), feed(""), begin(), ask(""), feed("1"), end()]
+        yield [feed("12"), end()], [end(), feed(""), begin(), ask(""), feed("1"), end()]
+
+    def test_check(self):
+        for before, behind in self.texts():
+            for path in ("a", ".a" * 9, "[01]"):
+                self.unchanged([ask(""), *before], check(path), -1, behind)
+
+    def test_ask(self):
+        for before, behind in self.texts():
+            for refused in (ask("", 2), ask("", 16383), ask("a"), ask("a", 1), ask("a", 2), ask(".a" * 9)):
+                self.unchanged([ask("..[*]"), *before], refused, -1, behind + [ask("")])
+                self.unchanged([*FULL, *before], refused, -1, behind + [drop(3), ask("")])
+            for refused in (ask(""), ask("..[*]", 1), ask(".a")):
+                self.unchanged([*FULL, *before], refused, -2, behind + [drop(3), ask("")])
+
+    def test_drop(self):
+        for before, behind in self.texts():
+            for wanted in (1, 3, 15, 16, 16383):
+                self.unchanged([ask("..[*]"), ask(".b"), ask("", 1), drop(1), *before], drop(wanted), -1, behind)
+            self.unchanged(before, drop(0), -1, behind)
+            self.unchanged([*FULL, *before], drop(16), -1, behind)
+
+    def test_feed_of_too_much(self):
+        head = [ask(""), *blanks(60000)]
+        for before, behind in list(self.texts())[::4]:
+            taken = run(*head, *before, place())[-1][1]
+            for refused in (b" ", b"x"):
+                self.unchanged([*head, *before], feed(refused * (65536 - taken + 1)), -3, behind)
+        for refused in (feed("1 "), feed("xx"), feed("[" * 2000)):
+            self.unchanged([ask(""), *blanks(65535)], refused, -3, [feed("1"), end()])
+            self.unchanged([ask(""), *blanks(65534), feed("[")], refused, -3, [feed("]"), end()])
+
+    def test_feed_of_too_much_behind_a_wrong_byte_or_the_end(self):
+        for over in ([feed("x")], [end()], [feed("1"), end()], [feed("[1}")]):
+            self.unchanged([ask(""), *blanks(64000), *over], feed(" " * 1537), -3, [end(), feed(""), begin(), end()])
+
+    def test_feed_and_end_behind_a_wrong_byte_or_the_end(self):
+        overs = [[feed("x")], [feed("[[1,]")], [feed('{"a":['), feed("}")], [feed(""), end()], [feed("12"), end()],
+                 [feed("[["), end()], [feed('{"a":"x'), end()], [feed("[1]"), end()], [end()], [feed(" 1]")]]
+        for over in overs:
+            for asks in ([], [ask("")], [ask(".a"), ask("..[*]", 1)], FULL):
+                for refused in (feed(""), feed(" "), feed("]"), feed("1"), feed("x"), end()):
+                    self.unchanged([*asks, *over], refused, -2, [feed(""), end(), ask(".c"), drop(0), begin(),
+                                                                 feed("[1"), feed("]"), end()])
+
+    def test_refused_twice(self):
+        given = run(ask(""), feed("[1"), ask("a"), ask("a"), drop(1), drop(1), *LOOK, feed("2]"), end(), end(), end(),
+                    feed(""), *LOOK)
+        self.assertEqual(given[2:6], [[-1]] * 4)
+        self.assertEqual(given[6:9], [[0, 2], [0, 1], [0, 0]])
+        self.assertEqual(given[9:], [right(number(0, "12"), closed(ARRAY)), [0], [-2], [-2], [-2], [0, 4], [0, 0],
+                                     [0, 0]])
 
 
 if __name__ == "__main__":

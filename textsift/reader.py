@@ -218,9 +218,13 @@ class Reader:
         # A wrong byte is not taken, so it must not tell the number before it.
         if not self.number.may_end() or not (byte in BLANKS or self.may_follow_value(byte)):
             return False
+        self.end_number(told)
+        return self.take(byte, told)
+
+    def end_number(self, told):
+        """Tell the number that has come to its end."""
         self.tell_bytes(5, self.number.figures, told)
         self.awaited = BEHIND_VALUE
-        return self.take(byte, told)
 
     def take_in_word(self, byte, told):
         """Take a further letter of null, false or true."""
@@ -238,3 +242,11 @@ class Reader:
         """Tell a string or number, if it is told."""
         if self.is_told:
             told.extend([sign, self.which, len(row)] + row)
+
+    def end_text(self, told):
+        """Whether the bytes taken are a text; if so, put behind told what its end tells."""
+        if len(self.levels) > 0:
+            return False
+        if self.awaited == IN_NUMBER and self.number.may_end():
+            self.end_number(told)
+        return self.awaited == BEHIND_VALUE

@@ -11,6 +11,10 @@ BEGIN = 2
 ASK = 3
 DROP = 4
 FEED = 5
+END = 6
+PLACE = 7
+DEPTH = 8
+ASKED = 9
 
 
 class UnknownCall(ValueError):
@@ -18,20 +22,23 @@ class UnknownCall(ValueError):
 
 
 class Sifter:
-    """The questions and the text of a line. Each call answers its row of numbers."""
+    """The questions and the text of a line. Each call answers its row of numbers.
+
+    over: the text was ended or found wrong, so that no more of it can come.
+    """
 
     def __init__(self):
         self.questions = Questions()
         self.reader = Reader(self.questions)
         self.taken = 0
-        self.wrong = False
+        self.over = False
 
     def begin(self):
         """Begin anew, with no bytes and no questions."""
         self.questions = Questions()
         self.reader = Reader(self.questions)
         self.taken = 0
-        self.wrong = False
+        self.over = False
         return [0]
 
     def ask(self, shut, path):
@@ -58,15 +65,37 @@ class Sifter:
         """Take the bytes of the piece, up to the first wrong one, and tell what they tell."""
         if self.taken + len(piece) > MOST_BYTES:
             return [-3]
-        if self.wrong:
+        if self.over:
             return [-2]
         told = []
         for byte in piece:
             if not self.reader.take(byte, told):
-                self.wrong = True
+                self.over = True
                 return [1] + told
             self.taken += 1
         return [0] + told
+
+    def end(self):
+        """End the text, whether its bytes are one or not, and tell what only its end makes sure."""
+        if self.over:
+            return [-2]
+        self.over = True
+        told = []
+        if not self.reader.end_text(told):
+            return [1]
+        return [0] + told
+
+    def place(self):
+        """How many bytes have been taken."""
+        return [0, self.taken]
+
+    def depth(self):
+        """How many arrays and objects have begun and are not closed."""
+        return [0, len(self.reader.levels)]
+
+    def asked(self):
+        """The numbers of all questions, rising."""
+        return [0] + sorted(self.questions.held)
 
 
 def check(path):
@@ -94,7 +123,7 @@ def answers(calls):
 def end_of_call(calls, at):
     """Where the call ends that begins there."""
     number = calls[at]
-    if number == BEGIN:
+    if number in (BEGIN, END, PLACE, DEPTH, ASKED):
         return at + 1
     if number == DROP:
         return at + 2
@@ -116,4 +145,12 @@ def answer_to(sifter, call):
         return sifter.ask(call[1], call[3:])
     if number == DROP:
         return sifter.drop(call[1])
-    return sifter.feed(call[2:])
+    if number == FEED:
+        return sifter.feed(call[2:])
+    if number == END:
+        return sifter.end()
+    if number == PLACE:
+        return sifter.place()
+    if number == DEPTH:
+        return sifter.depth()
+    return sifter.asked()
