@@ -187,7 +187,8 @@ class BehindEndTest(unittest.TestCase):
 
     def test_feed_and_end(self):
         for text, answer, deep in self.ENDED:
-            given = run(feed(text), end(), feed(""), feed(" "), feed("1"), feed("x"), feed("]"), feed(" " * 16000), end())
+            given = run(feed(text), end(), feed(""), feed(" "), feed("1"), feed("x"), feed("]"), feed(" " * 16000),
+                        end())
             self.assertEqual(given, [[0], [answer]] + [[-2]] * 7, text)
 
     def test_too_many_bytes_come_first(self):
@@ -209,8 +210,9 @@ class BehindEndTest(unittest.TestCase):
             behind = run(ask(".x"), feed(text), end(), *looks)
             self.assertEqual(behind[2], [answer])
             self.assertEqual(behind[3:], given[2:], text)
-            self.assertEqual(behind[3:], [[0, len(text)], [0, deep], [0, 0], [0, 2], [-1], [0, 1], [-1], [-1], [0, 0, 1],
-                                          [0], [-1], [-1], [0, 1], [0, 0], [0, 0, 1], [0, len(text)], [0, deep]])
+            self.assertEqual(behind[3:], [[0, len(text)], [0, deep], [0, 0], [0, 2], [-1], [0, 1], [-1], [-1],
+                                          [0, 0, 1], [0], [-1], [-1], [0, 1], [0, 0], [0, 0, 1], [0, len(text)],
+                                          [0, deep]])
 
     def test_all_sixteen_behind_it(self):
         given = run(end(), *[ask("")] * 17, asked(), drop(7), ask(".a"), asked())
@@ -221,8 +223,8 @@ class BehindEndTest(unittest.TestCase):
         for text, answer, deep in self.ENDED:
             given = run(ask(""), feed(text), end(), begin(), place(), depth(), asked(), ask("[0]"), feed('["v"'),
                         feed("]"), end(), begin(), feed("[2"), end(), end())
-            self.assertEqual(given[3:], [[0], [0, 0], [0, 0], [0], [0, 0], right(string(1, "v")), [0], [0], [0], [0], [1],
-                                         [-2]], text)
+            self.assertEqual(given[3:], [[0], [0, 0], [0, 0], [0], [0, 0], right(string(1, "v")), [0], [0], [0], [0],
+                                         [1], [-2]], text)
 
 
 if __name__ == "__main__":

@@ -11,13 +11,13 @@ from tests.helper import ask, asked, begin, check, depth, drop, end, feed, place
 from textsift.sift import answers
 
 LINE = (check(".a[*]") + check("a") + ask("..a") + ask("[*]", 1) + ask("", 2) + feed('[1,{"a":["x",null]},[') + place()
-        + depth() + asked() + drop(1) + drop(7) + feed('true],12') + asked() + end() + end() + feed("") + begin() + ask("")
-        + feed('{"\u00e4":[]}') + feed("x") + feed("") + end() + begin() + ask("") + place() + feed("-7") + end()
-        + depth())
+        + depth() + asked() + drop(1) + drop(7) + feed('true],12') + asked() + end() + end() + feed("") + begin()
+        + ask("") + feed('{"\u00e4":[]}') + feed("x") + feed("") + end() + begin() + ask("") + place() + feed("-7")
+        + end() + depth())
 
-ANSWERED = [2, 0, 2, 1, -1, 2, 0, 0, 2, 0, 1, 1, -1, 11, 0, 5, 2, 1, 49, 1, 2, 0, 1, 2, 1, 2, 0, 21, 2, 0, 2, 3, 0, 0, 1,
-            1, 0, 1, -1, 1, 0, 2, 0, 0, 1, 1, 1, -2, 1, -2, 1, 0, 2, 0, 0, 15, 0, 1, 1, 0, 3, 2, 195, 164, 1, 0, 1, 2, 1,
-            2, 0, 1, 1, 1, -2, 1, -2, 1, 0, 2, 0, 0, 2, 0, 0, 1, 0, 6, 0, 5, 1, 2, 45, 55, 2, 0, 0]
+ANSWERED = [2, 0, 2, 1, -1, 2, 0, 0, 2, 0, 1, 1, -1, 11, 0, 5, 2, 1, 49, 1, 2, 0, 1, 2, 1, 2, 0, 21, 2, 0, 2, 3, 0, 0,
+            1, 1, 0, 1, -1, 1, 0, 2, 0, 0, 1, 1, 1, -2, 1, -2, 1, 0, 2, 0, 0, 15, 0, 1, 1, 0, 3, 2, 195, 164, 1, 0, 1,
+            2, 1, 2, 0, 1, 1, 1, -2, 1, -2, 1, 0, 2, 0, 0, 2, 0, 0, 1, 0, 6, 0, 5, 1, 2, 45, 55, 2, 0, 0]
 
 
 def refuse(self, *given):

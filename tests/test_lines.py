@@ -84,8 +84,8 @@ class LinesTest(unittest.TestCase):
 
     def test_all_nine_kinds(self):
         seen = self.many(range(300000, 300400), [], [[]])
-        for found in ((1, 0), (1, -1), (2, 0), (3, 0), (3, -1), (4, 0), (4, -1), (5, 0), (5, 1), (5, -2), (6, 0), (6, 1),
-                      (6, -2), (7, 0), (8, 0), (9, 0)):
+        for found in ((1, 0), (1, -1), (2, 0), (3, 0), (3, -1), (4, 0), (4, -1), (5, 0), (5, 1), (5, -2), (6, 0),
+                      (6, 1), (6, -2), (7, 0), (8, 0), (9, 0)):
             self.assertGreater(seen.get(found, 0), 20, found)
 
     def test_mostly_feeds_ends_and_begins(self):

@@ -3,8 +3,8 @@
 import random
 import unittest
 
-from tests.helper import (PATHS, Model, ask, closers, depth, drop, end, feed, is_text, longest_beginning, modelled, place,
-                          raw, run, some_text, spoiled)
+from tests.helper import (PATHS, Model, ask, closers, depth, drop, end, feed, is_text, longest_beginning, modelled,
+                          place, raw, run, some_text, spoiled)
 
 
 def some_calls(dice, size):

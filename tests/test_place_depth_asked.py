@@ -19,7 +19,8 @@ class PlaceTest(unittest.TestCase):
         self.assertEqual(given[1::2], [[0, 0], [0, 1], [0, 2], [0, 2], [0, 10], [0, 16010], [0, 16013]])
 
     def test_bytes_are_counted_not_characters(self):
-        given = run(feed('"\u00e4\u20ac'), place(), feed(b"\xf0\x9f"), place(), feed(b"\x98\x80\\ud83d\\ude00"), place())
+        given = run(feed('"\u00e4\u20ac'), place(), feed(b"\xf0\x9f"), place(), feed(b"\x98\x80\\ud83d\\ude00"),
+                    place())
         self.assertEqual(given[1::2], [[0, 6], [0, 8], [0, 22]])
 
     def test_every_byte(self):
@@ -105,8 +106,8 @@ class DepthTest(unittest.TestCase):
             self.assertEqual(given, [[1], [0, deep], [-2], [0, deep], [-2], [0, deep]], text)
 
     def test_within_what_is_left_out(self):
-        given = run(ask("[*]", 1), feed("[["), depth(), feed('{"a":['), depth(), feed("[1"), depth(), feed("]]}"), depth(),
-                    feed("]"), depth(), feed("]"), depth())
+        given = run(ask("[*]", 1), feed("[["), depth(), feed('{"a":['), depth(), feed("[1"), depth(), feed("]]}"),
+                    depth(), feed("]"), depth(), feed("]"), depth())
         self.assertEqual(given[2::2], [[0, 2], [0, 4], [0, 5], [0, 2], [0, 1], [0, 0]])
         self.assertEqual(run(ask("", 1), feed("[" * 32), depth(), feed("]" * 32), depth())[2::2], [[0, 32], [0, 0]])
 
@@ -135,8 +136,8 @@ class AskedTest(unittest.TestCase):
         self.assertEqual(given[1::2], [[0] + list(range(count + 1)) for count in range(16)])
 
     def test_behind_drops_and_new_ones_they_rise(self):
-        given = run(*[ask(".a")] * 6, drop(4), asked(), drop(0), asked(), drop(2), asked(), ask(".b"), asked(), ask(".c"),
-                    asked(), drop(5), asked(), ask(".d"), asked(), ask(".e"), asked(), ask(".f"), asked())
+        given = run(*[ask(".a")] * 6, drop(4), asked(), drop(0), asked(), drop(2), asked(), ask(".b"), asked(),
+                    ask(".c"), asked(), drop(5), asked(), ask(".d"), asked(), ask(".e"), asked(), ask(".f"), asked())
         self.assertEqual(given[7::2], [[0, 0, 1, 2, 3, 5], [0, 1, 2, 3, 5], [0, 1, 3, 5], [0, 0, 1, 3, 5],
                                        [0, 0, 1, 2, 3, 5], [0, 0, 1, 2, 3], [0, 0, 1, 2, 3, 4], [0, 0, 1, 2, 3, 4, 5],
                                        [0, 0, 1, 2, 3, 4, 5, 6]])

@@ -2,8 +2,8 @@
 
 import unittest
 
-from tests.helper import (ARRAY, ask, asked, begin, blanks, check, closed, depth, drop, end, feed, number, opened, place,
-                          right, run, string, wrong)
+from tests.helper import (ARRAY, ask, asked, begin, blanks, check, closed, depth, drop, end, feed, number, opened,
+                          place, right, run, string, wrong)
 
 LOOK = [place(), depth(), asked()]
 FULL = [ask("[0]"), ask("..a", 1)] + [ask("..[1]")] * 14
